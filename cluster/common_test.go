@@ -1,0 +1,121 @@
+package cluster
+
+import (
+	"errors"
+	"reflect"
+	"testing"
+)
+
+func r(key byte) Op { return Op{Key: key} }
+
+func w(key byte, value int32) Op { return Op{Write: true, Key: key, Value: value} }
+
+// made is a cluster that is stopped when the test ends.
+func made(t *testing.T, shards int) *Cluster {
+	t.Helper()
+	c, err := New(shards)
+	if c == nil || err != nil {
+		t.Fatalf("New(%d) = %v, %v", shards, c, err)
+	}
+	t.Cleanup(c.Stop)
+	return c
+}
+
+// submitted is the number of a transaction that must be taken.
+func submitted(t *testing.T, c *Cluster, ops ...Op) int {
+	t.Helper()
+	tx, err := c.Submit(ops)
+	if err != nil {
+		t.Fatalf("Submit(%v): %v", ops, err)
+	}
+	return tx
+}
+
+// works: these calls must answer no error.
+func works(t *testing.T, errs ...error) {
+	t.Helper()
+	for i, err := range errs {
+		if err != nil {
+			t.Fatalf("call %d: %v", i, err)
+		}
+	}
+}
+
+// refused: the error must be this one, of that call and number.
+func refused(t *testing.T, err, why error, call string, at int) {
+	t.Helper()
+	var e *CallError
+	if !errors.As(err, &e) || err != error(e) || e.Call != call || e.At != at || e.Err != why || !errors.Is(err, why) {
+		t.Errorf("%s(%d): %v, want %v", call, at, err, why)
+	}
+}
+
+// same: what is told must be this.
+func same(t *testing.T, what string, got, want any) {
+	t.Helper()
+	if !reflect.DeepEqual(got, want) {
+		t.Errorf("%s: %v, want %v", what, got, want)
+	}
+}
+
+// picture is all that P9 tells of a cluster.
+type picture struct {
+	bag     []Message
+	results []int
+	reads   [][]int32
+	up      []bool
+	values  []map[byte]int32
+	locks   []map[byte]int
+	logs    [][]Record
+	good    []int
+}
+
+func taken(c *Cluster) picture {
+	p := picture{bag: c.Bag()}
+	for tx := range maxTransactions {
+		result, reads := c.Result(tx)
+		p.results, p.reads = append(p.results, result), append(p.reads, reads)
+	}
+	for s := range maxShards {
+		log, good := c.Records(s)
+		p.up = append(p.up, c.Up(s))
+		p.values = append(p.values, c.Values(s))
+		p.locks = append(p.locks, c.Locks(s))
+		p.logs, p.good = append(p.logs, log), append(p.good, good)
+	}
+	return p
+}
+
+// numbered are the methods that take a number and answer an error.
+func numbered(c *Cluster) map[string]func(int) error {
+	return map[string]func(int) error{
+		"Again":   c.Again,
+		"Deliver": c.Deliver,
+		"Drop":    c.Drop,
+		"Copy":    c.Copy,
+		"Sync":    c.Sync,
+		"Tick":    c.Tick,
+		"Crash":   func(s int) error { return c.Crash(s, s) },
+		"Restart": c.Restart,
+	}
+}
+
+// oddNumbers are those that nothing has.
+func oddNumbers() []int { return []int{-1 << 63, -2, -1, 400, 1 << 40, 1<<63 - 1} }
+
+// filled is a cluster of 2 shards that has something of everything P9 tells.
+func filled(t *testing.T) *Cluster {
+	t.Helper()
+	c := made(t, 2)
+	submitted(t, c, w('a', 5), r('b'))
+	submitted(t, c, r('c'))
+	c.bag.put(Message{Kind: reply, From: 0, To: client, Tx: 0, Yes: true, Reads: []int32{7}})
+	works(t, c.Deliver(2))
+	c.bag.put(Message{Kind: vote, From: 1, To: 0, Tx: 1, Yes: true, Reads: []int32{8}})
+	s := c.shards[1]
+	s.values['b'] = 9
+	s.locks['d'] = 1
+	s.log = []Record{{Kind: 1, Tx: 1, Ops: []Op{r('d')}}, {Kind: 2, Tx: 0, Yes: true, Reads: []int32{7}}}
+	s.good = 1
+	return c
+}
