@@ -2,8 +2,8 @@ package cluster
 
 import "slices"
 
-// bag holds the messages that have been sent, in that order. What a message's lists hold is never changed, so copies within the bag may share them.
-type bag []Message
+// bag holds the messages that have been sent, in that order.
+type bag []message
 
 func (b bag) full() bool {
 	return len(b) >= maxBag
@@ -13,11 +13,11 @@ func (b bag) has(i int) bool {
 	return i >= 0 && i < len(b)
 }
 
-func (b *bag) put(m Message) {
-	*b = append(*b, m)
+func (b *bag) put(sent ...message) {
+	*b = append(*b, sent...)
 }
 
-func (b *bag) take(i int) Message {
+func (b *bag) take(i int) message {
 	m := (*b)[i]
 	*b = slices.Delete(*b, i, i+1)
 	return m
@@ -27,7 +27,7 @@ func (b *bag) take(i int) Message {
 func (b bag) told() []Message {
 	all := make([]Message, 0, len(b))
 	for _, m := range b {
-		all = append(all, freshMessage(m))
+		all = append(all, m.told())
 	}
 	return all
 }

@@ -1,9 +1,6 @@
 package cluster
 
-import (
-	"slices"
-	"testing"
-)
+import "testing"
 
 // full fills the bag with copies of its first message.
 func full(t *testing.T, c *Cluster) {
@@ -47,12 +44,12 @@ func TestPlacesInTheBag(t *testing.T) {
 	works(t, c.Copy(1))
 	same(t, "behind Copy(1)", numbersIn(c), []int{0, 1, 3, 4, 1})
 	works(t, c.Deliver(0))
-	same(t, "behind Deliver(0)", numbersIn(c), []int{1, 3, 4, 1})
+	same(t, "behind Deliver(0), and what came of it", numbersIn(c), []int{1, 3, 4, 1, 0})
 	works(t, c.Drop(3), c.Deliver(2), c.Copy(0), c.Again(4))
-	same(t, "behind more", numbersIn(c), []int{1, 3, 1, 4})
+	same(t, "behind more", numbersIn(c), []int{1, 3, 0, 4, 1, 4})
 	bag := c.Bag()
-	same(t, "a copy", bag[2], bag[0])
-	works(t, c.Drop(0), c.Drop(0), c.Drop(0), c.Drop(0))
+	same(t, "a copy", bag[4], bag[0])
+	works(t, c.Drop(0), c.Drop(0), c.Drop(0), c.Drop(2), c.Drop(0), c.Drop(0))
 	same(t, "behind all", len(c.Bag()), 0)
 }
 
@@ -60,10 +57,9 @@ func TestPlacesInTheBag(t *testing.T) {
 func TestCopyIsLikeIt(t *testing.T) {
 	c := made(t, 2)
 	submitted(t, c, r('a'))
-	m := Message{Kind: reply, From: 0, To: client, Tx: 0, Yes: true, Reads: []int32{3}}
-	c.bag.put(m)
+	c.bag.put(reply{letter{0, client, 0}, true, []int32{3}})
 	works(t, c.Copy(1), c.Drop(1))
-	same(t, "the copy", c.Bag()[1], m)
+	same(t, "the copy", c.Bag()[1], replyYes(0, 0, 3))
 	works(t, c.Deliver(1))
 	result, reads := c.Result(0)
 	same(t, "the result", result, 2)
@@ -87,21 +83,39 @@ func TestFullBag(t *testing.T) {
 	same(t, "the full bag", taken(c), ahead)
 	works(t, c.Drop(399), c.Copy(398))
 	refused(t, c.Copy(0), ErrMany, "Copy", 0)
-	works(t, c.Deliver(7), c.Again(0))
+	works(t, c.Deliver(7)) // two prepares join it
+	same(t, "what the bag holds", len(c.Bag()), 401)
+	for range 2 {
+		refused(t, c.Copy(0), ErrMany, "Copy", 0)
+		refused(t, c.Again(0), ErrMany, "Again", 0)
+		_, err = c.Submit([]Op{r('a')})
+		refused(t, err, ErrMany, "Submit", 0)
+		works(t, c.Drop(0))
+	}
+	works(t, c.Again(0))
 	refused(t, c.Again(0), ErrMany, "Again", 0)
-	c.bag.put(c.bag[0])
-	refused(t, c.Copy(0), ErrMany, "Copy", 0)
-	refused(t, c.Again(0), ErrMany, "Again", 0)
-	works(t, c.Drop(400), c.Drop(399))
+	works(t, c.Drop(0))
 	same(t, "the number", submitted(t, c, r('a')), 1)
 }
 
 // P4: at a shard that is down nothing happens, but that the message is gone.
 func TestDeliverToOneThatIsDown(t *testing.T) {
 	c := filled(t)
+	works(t, c.Drop(0), c.Drop(0), c.Drop(0))
 	c.shards[0].up = false
 	ahead := taken(c)
-	works(t, c.Deliver(0))
-	ahead.bag = slices.Delete(ahead.bag, 0, 1)
-	same(t, "behind it", taken(c), ahead)
+	for _, m := range []message{
+		begin{letter{client, 0, 1}, []Op{r('c')}},
+		prepare{letter{0, 0, 1}, []Op{r('c')}},
+		vote{letter{0, 0, 1}, true, []int32{0}}, vote{letter: letter{0, 0, 1}},
+		decide{letter{0, 0, 1}, true}, decide{letter: letter{0, 0, 1}},
+		ack{letter{0, 0, 1}},
+		ask{letter{1, 0, 1}},
+	} {
+		comes(t, c, m)
+		same(t, "behind it", taken(c), ahead)
+	}
+	c.shards[0].up = true
+	works(t, c.Sync(0))
+	bagIs(t, c, "behind a sync")
 }

@@ -35,6 +35,7 @@ func TestErrorsChangeNothing(t *testing.T) {
 		refused(t, c.Deliver(at), ErrMessage, "Deliver", at)
 		refused(t, c.Drop(at), ErrMessage, "Drop", at)
 		refused(t, c.Copy(at), ErrMessage, "Copy", at)
+		refused(t, c.Sync(at), ErrShard, "Sync", at)
 	}
 	tx, err := c.Submit([]Op{r('a'), r('a')})
 	same(t, "the number with an error", tx, 0)
@@ -115,6 +116,67 @@ func TestAnswersAreNew(t *testing.T) {
 	same(t, "behind the changes", taken(c), taken(twin))
 }
 
+// P1: also while a transaction goes its way: whoever spoils all answers spoils nothing else, nor another list of the same answer.
+func TestSpoiltAnswers(t *testing.T) {
+	c, twin := made(t, 2), made(t, 2)
+	for _, one := range []*Cluster{c, twin} {
+		submitted(t, one, w('b', 5), r('a'), w('c', 1), r('d'))
+		submitted(t, one, r('d'), r('e'))
+	}
+	for step := range 40 {
+		for _, one := range []*Cluster{c, twin} {
+			_ = one.Copy(step % 3)
+			_ = one.Deliver(step % 2)
+			works(t, one.Sync(step/2%2))
+		}
+		spoilt(t, c)
+		same(t, "behind the spoiling", taken(c), taken(twin))
+	}
+	result, reads := c.Result(0)
+	same(t, "the result", result, 2)
+	same(t, "its reads", reads, []int32{0, 0})
+}
+
+// spoilt writes something of its own into every list and map that is answered, and looks whether it is there still.
+func spoilt(t *testing.T, c *Cluster) {
+	t.Helper()
+	ops, reads := [][]Op{}, [][]int32{}
+	for _, m := range c.Bag() {
+		ops, reads = append(ops, m.Ops), append(reads, m.Reads)
+	}
+	for s := range c.shards {
+		log, _ := c.Records(s)
+		for _, one := range log {
+			ops, reads = append(ops, one.Ops), append(reads, one.Reads)
+		}
+		c.Values(s)['q'], c.Locks(s)['q'] = 77, 77
+	}
+	for tx := range maxTransactions {
+		_, l := c.Result(tx)
+		reads = append(reads, l)
+	}
+	for i := range ops {
+		for k := range ops[i] {
+			ops[i][k] = w('q', int32(i))
+		}
+	}
+	for i := range reads {
+		for k := range reads[i] {
+			reads[i][k] = int32(i)
+		}
+	}
+	for i := range ops {
+		for k := range ops[i] {
+			same(t, "a spoilt operation", ops[i][k], w('q', int32(i)))
+		}
+	}
+	for i := range reads {
+		for k := range reads[i] {
+			same(t, "a spoilt read", reads[i][k], int32(i))
+		}
+	}
+}
+
 // P1: what is answered is the same however goroutines run: calls at the same time come one behind the other.
 func TestCallsAtTheSameTime(t *testing.T) {
 	for range 50 {
@@ -130,7 +192,7 @@ func TestCallsAtTheSameTime(t *testing.T) {
 				numbers[i], _ = c.Submit([]Op{r('a' + byte(i%26))})
 				_ = c.Copy(0)
 				_ = c.Deliver(0)
-				_ = c.Tick(i % 4)
+				_ = c.Sync(i % 4)
 				c.Bag()
 				c.Result(i)
 				c.Values(i % 4)
@@ -142,7 +204,6 @@ func TestCallsAtTheSameTime(t *testing.T) {
 		for i, tx := range numbers {
 			same(t, "a number", tx, i)
 		}
-		same(t, "the bag", len(c.Bag()), maxTransactions)
 	}
 }
 

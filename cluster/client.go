@@ -25,19 +25,21 @@ func (t *transactions) add(ops []Op) int {
 }
 
 // beginOf is the message that asks the home to carry the transaction out.
-func (t transactions) beginOf(tx int, shards int) Message {
+func (t transactions) beginOf(tx int, shards int) begin {
 	ops := t[tx].ops
-	return Message{Kind: begin, From: client, To: place(ops[0].Key, shards), Tx: tx, Ops: ops}
+	home := place(ops[0].Key, shards)
+	return begin{letter{from: client, to: home, tx: tx}, ops}
 }
 
 // hear takes a message to the client in: only the first reply counts.
-func (t transactions) hear(m Message) {
-	if m.Kind != reply || !t.has(m.Tx) || t[m.Tx].result != pending {
+func (t transactions) hear(m message) {
+	r, is := m.(reply)
+	if !is || t[r.tx].result != pending {
 		return
 	}
-	if !m.Yes {
-		t[m.Tx].result = aborted
+	if !r.yes {
+		t[r.tx].result = aborted
 		return
 	}
-	t[m.Tx].result, t[m.Tx].reads = committed, m.Reads
+	t[r.tx].result, t[r.tx].reads = committed, r.reads
 }

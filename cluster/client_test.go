@@ -56,8 +56,8 @@ func TestAgain(t *testing.T) {
 	same(t, "the third", bag[2], bag[1])
 	same(t, "the fourth", bag[3], bag[0])
 	same(t, "the fifth", bag[4], bag[0])
-	c.bag.put(Message{Kind: reply, From: 1, To: client, Tx: 0})
-	works(t, c.Deliver(5), c.Again(0))
+	comes(t, c, reply{letter: letter{1, client, 0}})
+	works(t, c.Again(0))
 	same(t, "the last", c.Bag()[5], bag[0])
 	result, _ := c.Result(0)
 	same(t, "the result behind Again", result, 3)
@@ -100,18 +100,18 @@ func TestRefusedTakesNoNumber(t *testing.T) {
 
 // P4: a reply sets the result, if it is pending still.
 func TestFirstReplyCounts(t *testing.T) {
-	yes := Message{Kind: reply, From: 0, To: client, Tx: 1, Yes: true, Reads: []int32{4, -5}}
-	other := Message{Kind: reply, From: 0, To: client, Tx: 1, Yes: true, Reads: []int32{6, 7}}
-	no := Message{Kind: reply, From: 0, To: client, Tx: 1}
+	yes := reply{letter{0, client, 1}, true, []int32{4, -5}}
+	other := reply{letter{0, client, 1}, true, []int32{6, 7}}
+	no := reply{letter: letter{0, client, 1}}
 	for _, row := range []struct {
-		replies []Message
+		replies []reply
 		result  int
 		reads   []int32
 	}{
-		{[]Message{yes}, 2, []int32{4, -5}},
-		{[]Message{no}, 3, nil},
-		{[]Message{yes, no, other}, 2, []int32{4, -5}},
-		{[]Message{no, yes}, 3, nil},
+		{[]reply{yes}, 2, []int32{4, -5}},
+		{[]reply{no}, 3, nil},
+		{[]reply{yes, no, other}, 2, []int32{4, -5}},
+		{[]reply{no, yes}, 3, nil},
 	} {
 		c := made(t, 2)
 		submitted(t, c, r('a'))
@@ -135,8 +135,7 @@ func TestFirstReplyCounts(t *testing.T) {
 func TestReplyWithoutReads(t *testing.T) {
 	c := made(t, 1)
 	submitted(t, c, w('a', 1))
-	c.bag.put(Message{Kind: reply, From: 0, To: client, Tx: 0, Yes: true})
-	works(t, c.Deliver(1))
+	comes(t, c, reply{letter: letter{0, client, 0}, yes: true})
 	result, reads := c.Result(0)
 	same(t, "the result", result, 2)
 	same(t, "its reads", len(reads), 0)
@@ -146,7 +145,7 @@ func TestReplyWithoutReads(t *testing.T) {
 func TestDroppedReply(t *testing.T) {
 	c := made(t, 1)
 	submitted(t, c, r('a'))
-	c.bag.put(Message{Kind: reply, From: 0, To: client, Tx: 0, Yes: true, Reads: []int32{0}})
+	c.bag.put(reply{letter{0, client, 0}, true, []int32{0}})
 	works(t, c.Drop(1))
 	result, _ := c.Result(0)
 	same(t, "the result", result, 1)

@@ -43,8 +43,8 @@ func New(shards int) (*Cluster, error) {
 		return nil, ErrShape
 	}
 	c := &Cluster{done: make(chan struct{})}
-	for range shards {
-		s := newShard()
+	for number := range shards {
+		s := newShard(number, shards)
 		c.shards = append(c.shards, s)
 		c.alive.Add(1)
 		go func() {
@@ -93,12 +93,12 @@ func (c *Cluster) Deliver(i int) error {
 			return ErrMessage
 		}
 		m := c.bag.take(i)
-		if m.To == client {
+		if m.receiver() == client {
 			c.txs.hear(m)
 			return nil
 		}
-		s := c.shards[m.To]
-		s.do(func() { s.takeIn(m) })
+		s := c.shards[m.receiver()]
+		c.bag.put(s.do(func() { s.takeIn(m) })...)
 		return nil
 	})
 }
@@ -128,16 +128,19 @@ func (c *Cluster) Copy(i int) error {
 	})
 }
 
-// Sync, Tick, Crash and Restart are P7 and P8.
-func (c *Cluster) Sync(s int) error { return c.call("Sync", s, notBuilt) }
+// Sync writes a shard's records to its disk for good, and sends what has waited for that.
+func (c *Cluster) Sync(s int) error {
+	return c.shardCall("Sync", s, (*shard).sync)
+}
 
+// Tick, Crash and Restart are the rest of P7, and P8.
 func (c *Cluster) Tick(s int) error { return c.call("Tick", s, notBuilt) }
 
 func (c *Cluster) Crash(s int, keep int) error { return c.call("Crash", s, notBuilt) }
 
 func (c *Cluster) Restart(s int) error { return c.call("Restart", s, notBuilt) }
 
-// notBuilt stands where disk, time and crashes will; behind Stop the calls are refused already.
+// notBuilt stands where time and crashes will; behind Stop the calls are refused already.
 func notBuilt() error { return nil }
 
 // Stop ends all goroutines, and waits for their end.
@@ -163,6 +166,19 @@ func (c *Cluster) call(name string, at int, work func() error) error {
 		return nil
 	}
 	return &CallError{Call: name, At: at, Err: err}
+}
+
+// shardCall does the work of a method with a shard, which its goroutine does.
+func (c *Cluster) shardCall(name string, at int, work func(*shard) error) error {
+	return c.call(name, at, func() error {
+		if !c.hasShard(at) {
+			return ErrShard
+		}
+		s := c.shards[at]
+		var err error
+		c.bag.put(s.do(func() { err = work(s) })...)
+		return err
+	})
 }
 
 // alone does something while no other call does anything; without a cluster there is nothing to do.

@@ -58,6 +58,73 @@ func same(t *testing.T, what string, got, want any) {
 	}
 }
 
+// comes: a message that no shard has sent comes in.
+func comes(t *testing.T, c *Cluster, m message) {
+	t.Helper()
+	c.bag.put(m)
+	works(t, c.Deliver(len(c.bag)-1))
+}
+
+// deliver lets the first messages of the bag come in, one behind the other.
+func deliver(t *testing.T, c *Cluster, many int) {
+	t.Helper()
+	for range many {
+		works(t, c.Deliver(0))
+	}
+}
+
+// bagIs: these messages, and no others, must be in the bag.
+func bagIs(t *testing.T, c *Cluster, when string, want ...Message) {
+	t.Helper()
+	same(t, "the bag "+when, c.Bag(), append([]Message{}, want...))
+}
+
+// logIs: a shard must have written these records, and so many of them must be for good.
+func logIs(t *testing.T, c *Cluster, s, good int, want ...Record) {
+	t.Helper()
+	log, n := c.Records(s)
+	same(t, "the log", append([]Record{}, log...), append([]Record{}, want...))
+	same(t, "for good", n, good)
+}
+
+// The messages, as Bag tells them.
+
+func toPrepare(from, to, tx int, ops ...Op) Message {
+	return Message{Kind: 2, From: from, To: to, Tx: tx, Ops: ops}
+}
+
+func voteYes(from, to, tx int, reads ...int32) Message {
+	return Message{Kind: 3, From: from, To: to, Tx: tx, Yes: true, Reads: reads}
+}
+
+func voteNo(from, to, tx int) Message { return Message{Kind: 3, From: from, To: to, Tx: tx} }
+
+func toDecide(from, to, tx int, yes bool) Message {
+	return Message{Kind: 4, From: from, To: to, Tx: tx, Yes: yes}
+}
+
+func toAck(from, to, tx int) Message { return Message{Kind: 5, From: from, To: to, Tx: tx} }
+
+func replyYes(from, tx int, reads ...int32) Message {
+	return Message{Kind: 7, From: from, To: -1, Tx: tx, Yes: true, Reads: reads}
+}
+
+func replyNo(from, tx int) Message { return Message{Kind: 7, From: from, To: -1, Tx: tx} }
+
+// The records, as Records tells them.
+
+func isPrepared(tx, home int, ops ...Op) Record {
+	return Record{Kind: 1, Tx: tx, Home: home, Ops: ops}
+}
+
+func decidedYes(tx int, reads ...int32) Record {
+	return Record{Kind: 2, Tx: tx, Yes: true, Reads: reads}
+}
+
+func decidedNo(tx int) Record { return Record{Kind: 2, Tx: tx} }
+
+func isDone(tx int, yes bool) Record { return Record{Kind: 3, Tx: tx, Yes: yes} }
+
 // picture is all that P9 tells of a cluster.
 type picture struct {
 	bag     []Message
@@ -109,13 +176,12 @@ func filled(t *testing.T) *Cluster {
 	c := made(t, 2)
 	submitted(t, c, w('a', 5), r('b'))
 	submitted(t, c, r('c'))
-	c.bag.put(Message{Kind: reply, From: 0, To: client, Tx: 0, Yes: true, Reads: []int32{7}})
-	works(t, c.Deliver(2))
-	c.bag.put(Message{Kind: vote, From: 1, To: 0, Tx: 1, Yes: true, Reads: []int32{8}})
+	comes(t, c, reply{letter{0, client, 0}, true, []int32{7}})
+	c.bag.put(vote{letter{1, 0, 1}, true, []int32{8}})
 	s := c.shards[1]
 	s.values['b'] = 9
 	s.locks['d'] = 1
-	s.log = []Record{{Kind: 1, Tx: 1, Ops: []Op{r('d')}}, {Kind: 2, Tx: 0, Yes: true, Reads: []int32{7}}}
+	s.log = []record{prepared{entry{1, 0}, 0, []Op{r('d')}}, decided{entry{0, 1}, true, []int32{7}}}
 	s.good = 1
 	return c
 }

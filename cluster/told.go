@@ -59,7 +59,7 @@ func (c *Cluster) Records(s int) ([]Record, int) {
 			return
 		}
 		for _, r := range c.shards[s].log {
-			all = append(all, freshRecord(r))
+			all = append(all, r.told())
 		}
 		good = c.shards[s].good
 	})

@@ -11,15 +11,22 @@ const (
 // client is what a message names instead of a shard when the client sends or receives it.
 const client = -1
 
-// The kinds of messages.
+// The kinds of messages, as a Message names them.
 const (
-	begin = iota + 1
-	prepare
-	vote
-	decide
-	ack
-	ask
-	reply
+	beginKind = iota + 1
+	prepareKind
+	voteKind
+	decideKind
+	ackKind
+	askKind
+	replyKind
+)
+
+// The kinds of records, as a Record names them.
+const (
+	preparedKind = iota + 1
+	decidedKind
+	doneKind
 )
 
 // What becomes of a transaction, as Result tells it; 0 is left for no transaction.
@@ -61,6 +68,33 @@ func place(key byte, shards int) int {
 	return int(key-'a') % shards
 }
 
+// part is what of a transaction lies on one shard.
+type part struct {
+	shard int
+	ops   []Op
+}
+
+// partsOf are a transaction's parts, in the order of the shards' numbers.
+func partsOf(ops []Op, shards int) []part {
+	var parts []part
+	for s := range shards {
+		if own := opsOn(s, ops, shards); len(own) > 0 {
+			parts = append(parts, part{s, own})
+		}
+	}
+	return parts
+}
+
+func opsOn(s int, ops []Op, shards int) []Op {
+	var own []Op
+	for _, op := range ops {
+		if place(op.Key, shards) == s {
+			own = append(own, op)
+		}
+	}
+	return own
+}
+
 // fresh copies a list, so that neither side sees what the other does to it; an empty one is nil.
 func fresh[T any](list []T) []T {
 	if len(list) == 0 {
@@ -69,14 +103,4 @@ func fresh[T any](list []T) []T {
 	made := make([]T, len(list))
 	copy(made, list)
 	return made
-}
-
-func freshMessage(m Message) Message {
-	m.Ops, m.Reads = fresh(m.Ops), fresh(m.Reads)
-	return m
-}
-
-func freshRecord(r Record) Record {
-	r.Ops, r.Reads = fresh(r.Ops), fresh(r.Reads)
-	return r
 }
