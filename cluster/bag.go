@@ -9,6 +9,10 @@ func (b bag) full() bool {
 	return len(b) >= maxBag
 }
 
+func (b bag) busy() bool {
+	return len(b) > maxTickBag
+}
+
 func (b bag) has(i int) bool {
 	return i >= 0 && i < len(b)
 }

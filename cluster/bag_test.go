@@ -102,7 +102,7 @@ func TestFullBag(t *testing.T) {
 func TestDeliverToOneThatIsDown(t *testing.T) {
 	c := filled(t)
 	works(t, c.Drop(0), c.Drop(0), c.Drop(0))
-	c.shards[0].up = false
+	works(t, c.Crash(0, 0))
 	ahead := taken(c)
 	for _, m := range []message{
 		begin{letter{client, 0, 1}, []Op{r('c')}},
@@ -115,7 +115,7 @@ func TestDeliverToOneThatIsDown(t *testing.T) {
 		comes(t, c, m)
 		same(t, "behind it", taken(c), ahead)
 	}
-	c.shards[0].up = true
-	works(t, c.Sync(0))
+	works(t, c.Restart(0), c.Sync(0))
 	bagIs(t, c, "behind a sync")
+	logIs(t, c, 0, 0)
 }

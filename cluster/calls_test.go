@@ -36,6 +36,9 @@ func TestErrorsChangeNothing(t *testing.T) {
 		refused(t, c.Drop(at), ErrMessage, "Drop", at)
 		refused(t, c.Copy(at), ErrMessage, "Copy", at)
 		refused(t, c.Sync(at), ErrShard, "Sync", at)
+		refused(t, c.Tick(at), ErrShard, "Tick", at)
+		refused(t, c.Crash(at, 1), ErrShard, "Crash", at)
+		refused(t, c.Restart(at), ErrShard, "Restart", at)
 	}
 	tx, err := c.Submit([]Op{r('a'), r('a')})
 	same(t, "the number with an error", tx, 0)
@@ -135,6 +138,13 @@ func TestSpoiltAnswers(t *testing.T) {
 	result, reads := c.Result(0)
 	same(t, "the result", result, 2)
 	same(t, "its reads", reads, []int32{0, 0})
+	for s := range c.shards {
+		for _, one := range []*Cluster{c, twin} {
+			works(t, one.Crash(s, s), one.Restart(s))
+		}
+		spoilt(t, c)
+		same(t, "what the log tells", taken(c), taken(twin))
+	}
 }
 
 // spoilt writes something of its own into every list and map that is answered, and looks whether it is there still.
@@ -193,6 +203,9 @@ func TestCallsAtTheSameTime(t *testing.T) {
 				_ = c.Copy(0)
 				_ = c.Deliver(0)
 				_ = c.Sync(i % 4)
+				_ = c.Tick(i % 4)
+				_ = c.Crash(i%4, 1)
+				_ = c.Restart(i % 4)
 				c.Bag()
 				c.Result(i)
 				c.Values(i % 4)
@@ -220,6 +233,9 @@ func TestStopAtTheSameTime(t *testing.T) {
 					t.Errorf("Submit: %v", err)
 				}
 				_ = c.Deliver(0)
+				_ = c.Crash(0, 0)
+				_ = c.Restart(0)
+				_ = c.Tick(0)
 			}
 			c.Stop()
 		}()

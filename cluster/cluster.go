@@ -130,18 +130,23 @@ func (c *Cluster) Copy(i int) error {
 
 // Sync writes a shard's records to its disk for good, and sends what has waited for that.
 func (c *Cluster) Sync(s int) error {
-	return c.shardCall("Sync", s, (*shard).sync)
+	return c.shardCall("Sync", s, (*shard).mustBeUp, (*shard).sync)
 }
 
-// Tick, Crash and Restart are the rest of P7, and P8.
-func (c *Cluster) Tick(s int) error { return c.call("Tick", s, notBuilt) }
+// Tick lets a shard's clock go on by one, and its timers go off whose time has come.
+func (c *Cluster) Tick(s int) error {
+	return c.shardCall("Tick", s, c.mayTick, (*shard).tick)
+}
 
-func (c *Cluster) Crash(s int, keep int) error { return c.call("Crash", s, notBuilt) }
+// Crash takes a shard down; of its records that are not for good it has the first keep still.
+func (c *Cluster) Crash(s int, keep int) error {
+	return c.shardCall("Crash", s, (*shard).mustBeUp, func(one *shard) { one.crash(keep) })
+}
 
-func (c *Cluster) Restart(s int) error { return c.call("Restart", s, notBuilt) }
-
-// notBuilt stands where time and crashes will; behind Stop the calls are refused already.
-func notBuilt() error { return nil }
+// Restart brings a shard up that is down; it knows what its log tells.
+func (c *Cluster) Restart(s int) error {
+	return c.shardCall("Restart", s, (*shard).mustBeDown, (*shard).restart)
+}
 
 // Stop ends all goroutines, and waits for their end.
 func (c *Cluster) Stop() {
@@ -168,17 +173,30 @@ func (c *Cluster) call(name string, at int, work func() error) error {
 	return &CallError{Call: name, At: at, Err: err}
 }
 
-// shardCall does the work of a method with a shard, which its goroutine does.
-func (c *Cluster) shardCall(name string, at int, work func(*shard) error) error {
+// shardCall does the work of a method with a shard, which its goroutine does. Whether it may is asked ahead of it, so that with an error nothing has changed.
+func (c *Cluster) shardCall(name string, at int, may func(*shard) error, work func(*shard)) error {
 	return c.call(name, at, func() error {
 		if !c.hasShard(at) {
 			return ErrShard
 		}
 		s := c.shards[at]
-		var err error
-		c.bag.put(s.do(func() { err = work(s) })...)
-		return err
+		if err := may(s); err != nil {
+			return err
+		}
+		c.bag.put(s.do(func() { work(s) })...)
+		return nil
 	})
+}
+
+// mayTick: time must not fill a bag that is hardly emptied.
+func (c *Cluster) mayTick(s *shard) error {
+	if err := s.mustBeUp(); err != nil {
+		return err
+	}
+	if c.bag.busy() {
+		return ErrMany
+	}
+	return nil
 }
 
 // alone does something while no other call does anything; without a cluster there is nothing to do.

@@ -50,6 +50,21 @@ func refused(t *testing.T, err, why error, call string, at int) {
 	}
 }
 
+// onlyOfShards: a call must be refused where no shard is, and taken where one is, though there is nothing to do.
+func onlyOfShards(t *testing.T, call string, do func(*Cluster, int) error) {
+	t.Helper()
+	for shards := 1; shards <= 4; shards++ {
+		c := made(t, shards)
+		for _, s := range append(oddNumbers(), shards, 4) {
+			refused(t, do(c, s), ErrShard, call, s)
+		}
+		for s := range shards {
+			works(t, do(c, s), do(c, s))
+		}
+		bagIs(t, c, "with nothing to do")
+	}
+}
+
 // same: what is told must be this.
 func same(t *testing.T, what string, got, want any) {
 	t.Helper()

@@ -4,25 +4,14 @@ import "testing"
 
 // P7: there is nothing to sync where no shard is, nor at one that is down.
 func TestSyncRefused(t *testing.T) {
-	for shards := 1; shards <= 4; shards++ {
-		c := made(t, shards)
-		for _, s := range append(oddNumbers(), shards, 4) {
-			refused(t, c.Sync(s), ErrShard, "Sync", s)
-		}
-		for s := range shards {
-			works(t, c.Sync(s), c.Sync(s))
-		}
-		bagIs(t, c, "with nothing to do")
-	}
+	onlyOfShards(t, "Sync", (*Cluster).Sync)
 	c := preparedHere(t)
-	c.shards[1].up = false
+	works(t, c.Crash(1, 1))
 	ahead := taken(c)
 	refused(t, c.Sync(1), ErrDown, "Sync", 1)
+	refused(t, c.Sync(2), ErrShard, "Sync", 2)
 	same(t, "behind it", taken(c), ahead)
-	works(t, c.Sync(0))
-	c.shards[1].up = true
-	works(t, c.Sync(1))
-	bagIs(t, c, "when it is up", voteYes(1, 0, 0, 7, 0))
+	works(t, c.Sync(0), c.Restart(1), c.Sync(1))
 }
 
 // P7: behind a sync all records are for good, of this shard alone, and what has waited is in the bag, once, in its order.

@@ -24,22 +24,25 @@ func (u *underWay) hear(m vote) {
 	}
 }
 
-func (u *underWay) allSaidYes() bool {
-	for _, p := range u.parts {
-		if _, said := u.yes[p.shard]; !said {
-			return false
-		}
-	}
-	return true
+// notYes are the parts of those who have not said yes.
+func (u *underWay) notYes() []part {
+	return lacking(u.parts, u.yes)
 }
 
-func (u *underWay) allAcked() bool {
-	for _, p := range u.parts {
-		if _, has := u.acked[p.shard]; !has {
-			return false
+// notAcked are the parts of those who have not acked.
+func (u *underWay) notAcked() []part {
+	return lacking(u.parts, u.acked)
+}
+
+// lacking are the parts whose shards have nothing in the map, in their order.
+func lacking[T any](parts []part, said map[int]T) []part {
+	var left []part
+	for _, p := range parts {
+		if _, has := said[p.shard]; !has {
+			left = append(left, p)
 		}
 	}
-	return true
+	return left
 }
 
 // reads brings the votes' reads into the order of the operations.
@@ -69,10 +72,8 @@ func (s *shard) takeBegin(m begin) {
 	}
 	u := newUnderWay(m.ops, s.shards)
 	s.underWay[m.tx] = u
-	for _, p := range u.parts {
-		s.send(prepare{s.letter(p.shard, m.tx), p.ops})
-	}
-	s.timers.add(s.clock+againTicks, againTimer, m.tx)
+	s.sendPrepares(m.tx, u)
+	s.againLater(m.tx)
 }
 
 func (s *shard) takeVote(m vote) {
@@ -85,7 +86,7 @@ func (s *shard) takeVote(m vote) {
 		return
 	}
 	u.hear(m)
-	if u.allSaidYes() {
+	if len(u.notYes()) == 0 {
 		s.decideAll(u, decided{s.entry(m.tx), true, u.reads(s.shards)})
 	}
 }
@@ -96,7 +97,7 @@ func (s *shard) takeAck(m ack) {
 		return
 	}
 	u.acked[m.from] = struct{}{}
-	if u.allAcked() {
+	if len(u.notAcked()) == 0 {
 		delete(s.underWay, m.tx)
 	}
 }
@@ -124,6 +125,32 @@ func (s *shard) decideAll(u *underWay, d decided) {
 		s.hold(s.decideOf(d, p.shard))
 	}
 	s.hold(s.replyOf(d))
+}
+
+// remind sends once more what somebody has not answered, of a transaction that is under way.
+func (s *shard) remind(tx int) {
+	u, is := s.underWay[tx]
+	if !is {
+		return
+	}
+	if d, is := s.decided[tx]; !is {
+		s.sendPrepares(tx, u)
+	} else if s.forGood(d.entry) {
+		s.sendDecides(d, u)
+	}
+	s.againLater(tx)
+}
+
+func (s *shard) sendPrepares(tx int, u *underWay) {
+	for _, p := range u.notYes() {
+		s.send(prepare{s.letter(p.shard, tx), p.ops})
+	}
+}
+
+func (s *shard) sendDecides(d decided, u *underWay) {
+	for _, p := range u.notAcked() {
+		s.send(s.decideOf(d, p.shard))
+	}
 }
 
 func (s *shard) hasDecided(tx int) bool {

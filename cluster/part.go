@@ -19,7 +19,7 @@ func (s *shard) takePrepare(m prepare) {
 	}
 	s.write(prepared{s.entry(m.tx), m.from, m.part})
 	s.hold(s.yesTo(m))
-	s.timers.add(s.clock+askTicks, askTimer, m.tx)
+	s.askLater(m.tx)
 }
 
 func (s *shard) takeDecide(m decide) {
@@ -34,6 +34,16 @@ func (s *shard) takeDecide(m decide) {
 	}
 	s.write(done{s.entry(m.tx), m.yes})
 	s.hold(s.ackTo(m))
+}
+
+// askHome asks how a transaction was decided; of one that is no longer prepared here there is nothing to ask, ever more.
+func (s *shard) askHome(tx int) {
+	p, is := s.prepared[tx]
+	if !is {
+		return
+	}
+	s.send(ask{s.letter(p.home, tx)})
+	s.askLater(tx)
 }
 
 // isLocked tells whether one of the operations is on a key that is locked.

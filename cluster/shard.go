@@ -98,13 +98,17 @@ func (s *shard) hold(m message) {
 	s.held = append(s.held, m)
 }
 
-func (s *shard) sync() error {
+func (s *shard) mustBeUp() error {
 	if !s.up {
 		return ErrDown
 	}
-	s.good = len(s.log)
-	s.send(s.held...)
-	s.held = nil
+	return nil
+}
+
+func (s *shard) mustBeDown() error {
+	if s.up {
+		return ErrUp
+	}
 	return nil
 }
 

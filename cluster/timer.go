@@ -32,6 +32,15 @@ func (t *timers) add(due, kind, tx int) {
 	t.set++
 }
 
+// due tells whether one is there whose time has come.
+func (t *timers) due(clock int) bool {
+	return len(t.heap) > 0 && t.heap[0].due <= clock
+}
+
+func (t *timers) takeEarliest() timer {
+	return heap.Pop(t).(timer)
+}
+
 func (t *timers) Len() int { return len(t.heap) }
 
 func (t *timers) Less(i, k int) bool {
@@ -54,4 +63,29 @@ func (t *timers) Pop() any {
 	one := t.heap[last]
 	t.heap = t.heap[:last]
 	return one
+}
+
+// tick lets time pass. What goes off may be set anew, but always for a later tick, so this ends.
+func (s *shard) tick() {
+	s.clock++
+	for s.timers.due(s.clock) {
+		s.goOff(s.timers.takeEarliest())
+	}
+}
+
+func (s *shard) goOff(t timer) {
+	switch t.kind {
+	case againTimer:
+		s.remind(t.tx)
+	case askTimer:
+		s.askHome(t.tx)
+	}
+}
+
+func (s *shard) againLater(tx int) {
+	s.timers.add(s.clock+againTicks, againTimer, tx)
+}
+
+func (s *shard) askLater(tx int) {
+	s.timers.add(s.clock+askTicks, askTimer, tx)
 }

@@ -6,6 +6,7 @@ const (
 	maxTransactions = 60
 	maxOps          = 6
 	maxBag          = 400
+	maxTickBag      = 150 // with more in the bag, no time passes
 )
 
 // client is what a message names instead of a shard when the client sends or receives it.
